@@ -62,7 +62,7 @@ func TestServerEnds(t *testing.T) {
 	w.hosts[0].waiting()
 }
 
-// A session over a connection that is timed out while its answer is on its way is over once more is written, or read.
+// A session whose answer nobody acknowledges is over once its connection is given up.
 func TestServerTimesOut(t *testing.T) {
 	w := newWire(t, set, clientAt(there))
 	w.connects(1, 0)
