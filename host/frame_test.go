@@ -41,26 +41,16 @@ func TestFrameIsNone(t *testing.T) {
 	x.tick(4, nil)
 	ping := echo(here, 1, 2, "")
 	good := comes(ping)
-	question := arpOf(thereMac, api.Everyone, api.Arp{Op: api.ArpAsk, FromMac: thereMac, FromIP: there, ToIP: here})
-	tcp := comes(api.Packet{From: there, To: here, TTL: 9, Proto: api.ProtoTcp, Data: segOf(there, here, api.Segment{From: 5, To: port, Flags: api.SYN})})
 	for name, s := range map[string]string{
-		"nothing":            "",
-		"a byte":             "x",
-		"too long":           good + strings.Repeat("x", 1500),
-		"cut":                good[:30],
-		"for another one":    packetOf(thereMac, hereMac+1, ping),
-		"for a group":        packetOf(thereMac, 1<<40, ping),
-		"for who sent it":    packetOf(thereMac, thereMac, ping),
-		"ARP, for others":    arpOf(thereMac, thereMac, api.Arp{Op: api.ArpAsk, FromMac: thereMac, FromIP: there, ToIP: here}),
-		"of a group":         good[:6] + "\x01" + good[7:],
-		"of another type":    bytesOf(thereMac, hereMac, 0x0801, good[14:]),
-		"no ARP":             spoilt(question, 15),
-		"the header's sum":   spoilt(good, 14+8),
-		"ICMP's sum":         spoilt(good, len(good)-1),
-		"TCP's sum":          spoilt(tcp, len(tcp)-1),
-		"no ICMP":            comes(api.Packet{From: there, To: here, TTL: 9, Proto: api.ProtoIcmp, Data: "\x08\x00"}),
-		"no segment":         comes(api.Packet{From: there, To: here, TTL: 9, Proto: api.ProtoTcp, Data: "\x00\x05"}),
-		"strange, a sum off": spoilt(comes(strange(here, "12345678")), 14+8),
+		"nothing":         "",
+		"a byte":          "x",
+		"cut":             good[:13],
+		"too long":        good + strings.Repeat("x", 1500),
+		"for another one": packetOf(thereMac, hereMac+1, ping),
+		"for a group":     packetOf(thereMac, 1<<40, ping),
+		"for who sent it": packetOf(thereMac, thereMac, ping),
+		"ARP, for others": arpOf(thereMac, thereMac, api.Arp{Op: api.ArpAsk, FromMac: thereMac, FromIP: there, ToIP: here}),
+		"of a group":      good[:6] + "\x01" + good[7:],
 	} {
 		t.Run(name, func(t *testing.T) {
 			x.t = t
@@ -71,8 +61,47 @@ func TestFrameIsNone(t *testing.T) {
 	x.t = t
 	x.frame(good, 3, nil)
 	x.frame(good, api.MaxTick+1, nil)
+	x.frame(spoilt(good, len(good)-1), 3, nil)
+	x.frame(spoilt(good, len(good)-1), api.MaxTick+1, nil)
+	x.now(4)
 	x.echoes(0)
 	x.frame(good, 4, nil, goes(0, here, api.ProtoIcmp, icmpOf(api.Icmp{A: 1, B: 2})))
+}
+
+// 22.1, 22.2: what is wrong within a frame for the host comes to nothing, but the frame came at its tick: none below is heard behind it.
+func TestFrameIsWrong(t *testing.T) {
+	good := comes(echo(here, 1, 2, ""))
+	other := echo(here+50, 1, 2, "")
+	question := arpOf(thereMac, api.Everyone, api.Arp{Op: api.ArpAsk, FromMac: thereMac, FromIP: there, ToIP: here})
+	tcp := comes(api.Packet{From: there, To: here, TTL: 9, Proto: api.ProtoTcp, Data: segOf(there, here, api.Segment{From: 5, To: port, Flags: api.SYN})})
+	for name, s := range map[string]string{
+		"without data":        good[:14],
+		"cut":                 good[:30],
+		"of another type":     bytesOf(thereMac, hereMac, 0x0801, good[14:]),
+		"to all, without any": bytesOf(thereMac, api.Everyone, 0xffff, ""),
+		"no ARP":              spoilt(question, 15),
+		"the header's sum":    spoilt(good, 14+8),
+		"ICMP's sum":          spoilt(good, len(good)-1),
+		"ICMP's sum, another": spoilt(comes(other), len(good)-1),
+		"TCP's sum":           spoilt(tcp, len(tcp)-1),
+		"no ICMP":             comes(api.Packet{From: there, To: here, TTL: 9, Proto: api.ProtoIcmp, Data: "\x08\x00"}),
+		"no segment":          comes(api.Packet{From: there, To: here, TTL: 9, Proto: api.ProtoTcp, Data: "\x00\x05"}),
+		"strange, a sum off":  spoilt(comes(strange(here, "12345678")), 14+8),
+	} {
+		t.Run(name, func(t *testing.T) {
+			x := knowing(t, set)
+			x.tick(4, nil)
+			x.frame(s, 9, nil)
+			x.now(9)
+			x.ping(there, 1, 2, 8)
+			x.frame(good, 8, nil)
+			x.echoes(0)
+			x.frame(good, 9, nil, goes(0, here, api.ProtoIcmp, icmpOf(api.Icmp{A: 1, B: 2})))
+		})
+	}
+	x := knowing(t, set)
+	x.frame(spoilt(good, len(good)-1), api.MaxTick, nil)
+	x.now(api.MaxTick)
 }
 
 // 22.2: a frame to all is heard as well as one to its own.

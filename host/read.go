@@ -10,7 +10,7 @@ import (
 // strange is the kind of a whole packet of a protocol that is none of ours: api numbers the others from 1 on.
 const strange = 0
 
-// read is what a frame is, if it is one.
+// read is what a frame is, if nothing is wrong with it.
 func read(s string) (api.Parsed, bool) {
 	x, e := parse.Parse(s)
 	if !isStrange(e) {

@@ -71,17 +71,20 @@ func (m *slow) frame(s string, now int) {
 		m.came["no frame, or for others"]++
 		return
 	}
+	if !m.may(now) {
+		return
+	}
 	a, arpCode := arp.Decode(f.Data)
 	p, ipCode := ip.Decode(f.Data)
-	switch f.Type {
-	case api.TypeArp:
-		if arpCode == api.OK && m.may(now) {
-			m.arp(a)
-		}
-	case api.TypeIP:
-		if ipCode == api.OK && (!ip.Whole(p) || m.mayBe(p)) && m.may(now) {
+	switch {
+	case f.Type == api.TypeArp && arpCode == api.OK:
+		m.arp(a)
+	case f.Type == api.TypeIP && ipCode == api.OK:
+		if !ip.Whole(p) || m.mayBe(p) {
 			m.packet(p)
 		}
+	default:
+		m.came["wrong"]++
 	}
 }
 

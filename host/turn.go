@@ -36,6 +36,18 @@ type turn struct {
 	news []api.Done // what requests came to, the server's too, that was not looked at so far
 }
 
+// open looks what a frame has within. Of what is wrong there nothing comes.
+func (t *turn) open(s string) {
+	x, ok := read(s)
+	switch {
+	case !ok:
+	case x.Kind == api.PArp:
+		t.learn(x.Arp)
+	default:
+		t.take(x)
+	}
+}
+
 // learn hears an ARP packet. What is refused has neither an answer nor anything that waited.
 func (t *turn) learn(a api.Arp) {
 	answer, waited, mac, _ := t.cache.Take(a, t.now)

@@ -241,7 +241,7 @@ func TestWalks(t *testing.T) {
 			k.step()
 		}
 	}
-	for _, x := range []string{"no tick", "no frame, or for others", "wrong within", "claimed", "asked for", "waited", "to others", "pieces that do not fit",
+	for _, x := range []string{"no tick", "no frame, or for others", "wrong", "wrong within", "claimed", "asked for", "waited", "to others", "pieces that do not fit",
 		"put together", "echoed", "echo", "may not be told", "told d", "told l", "cut", "too many wait", "let in", "port closed", "no room to let in",
 		"session refused", "answered", "session over", "asked again", "lost", "no tag", "no ping", "its own"} {
 		if came[x] < 50 {
